@@ -181,3 +181,15 @@ func fillAll(list []int, number int) {
 		list[i] = number
 	}
 }
+
+// wantNewMemory writes into a result and into the argument, and looks at what should not have changed by that.
+func wantNewMemory(t *testing.T, what string, p impl.Picture, make func(p impl.Picture) []int) {
+	t.Helper()
+	room := roomyCopy(p)
+	result, again := make(room), make(room)
+	want := slices.Clone(again)
+	fillAll(result, 99)
+	wantUntouched(t, what, room, p)
+	fillAll(room.Ink, 98)
+	wantInts(t, what+": a second result", again, want...)
+}

@@ -52,14 +52,7 @@ func TestArgumentsOfRanksAreNotModified(t *testing.T) {
 func TestResultsOfRanksAreNewMemory(t *testing.T) {
 	for _, s := range append(goodFields(), badFields()...) {
 		for _, f := range rankers() {
-			what := f.name + " of " + s.name
-			p := roomyCopy(s.picture)
-			result, again := f.make(p), f.make(p)
-			want := slices.Clone(again)
-			fillAll(result, 99)
-			wantUntouched(t, what, p, s.picture)
-			fillAll(p.Ink, 98)
-			wantInts(t, what+": a second result", again, want...)
+			wantNewMemory(t, f.name+" of "+s.name, s.picture, f.make)
 		}
 	}
 }
